@@ -1,0 +1,1 @@
+"""Elsetold: a cry told on to all but those who told it."""

@@ -1,0 +1,134 @@
+"""What the tests share: odd things, webs, and slow answers straight from the document's words."""
+
+import random
+from itertools import combinations
+
+
+def deep(many):
+    """A list within a list, so many within one another."""
+    thing = []
+    for _ in range(many - 1):
+        thing = [thing]
+    return thing
+
+
+ODD_THINGS = [
+    None, True, False, 0, 1, 2, -1, 10 ** 12 + 1, 10 ** 50, "", "ann", "ann bob", "\n", "\u00e4", b"ann", [], (), {},
+    set(), {1}, frozenset(["ann"]), {"ann": "bob"}, [None], (None,), [[]], [[], []], ([], ()), ["ann", []], [1, 2],
+    (1, 2, 3), ["ann", "bob", 1, 2], ("ann", "bob", True), ("ann", "ann", None), [{}, {}, {}], [["ann"], "ann", 1],
+    object(), object, len, int, ValueError, ValueError("x"), range(3), iter([]), lambda: 1, slice(1), Ellipsis,
+    NotImplemented, bytearray(2), deep(20), (deep(19), 1),
+]
+
+# Three in a round of ways, one beyond, one by herself.
+WEB = (["ann", "bob", "cat", "dan", "eve"], [("ann", "bob", 1), ("ann", "cat", 3), ("bob", "cat", 2), ("cat", "dan", 1)])
+
+
+def listed(thing):
+    """The same with lists in place of all tuples."""
+    return [listed(part) for part in thing] if isinstance(thing, (list, tuple)) else thing
+
+
+def tupled(thing):
+    """The same with tuples in place of all lists."""
+    return tuple([tupled(part) for part in thing]) if isinstance(thing, (list, tuple)) else thing
+
+
+def folk_of(many):
+    """So many unlike names, rising."""
+    letters = "abcdefghij"
+    return [letters[number // 10] + letters[number % 10] for number in range(many)]
+
+
+def web_of(folk, lengths):
+    """The web of these folk, and a way for each pair that has beats in the dict."""
+    return list(folk), [(one, other, lengths[(one, other)]) for one, other in sorted(lengths)]
+
+
+def some_webs(seed, many, most_folk, most_beats):
+    """So many webs, always the same ones."""
+    chance = random.Random(seed)
+    webs = []
+    for _ in range(many):
+        folk = folk_of(chance.randint(1, most_folk))
+        thick = chance.random()
+        pairs = [pair for pair in combinations(folk, 2) if chance.random() < thick]
+        webs.append(web_of(folk, {pair: chance.randint(1, most_beats) for pair in pairs}))
+    return webs
+
+
+def some_starters(seed, folk):
+    """Some of the folk, one at least, in some order."""
+    chance = random.Random(seed)
+    return chance.sample(folk, chance.randint(1, len(folk)))
+
+
+def edges_of(web):
+    """Each single beat of each way, as a tuple of its two places."""
+    edges = []
+    for one, other, beats in web[1]:
+        row = [(one, one, 0)] + [(one, other, k) for k in range(1, beats)] + [(other, other, 0)]
+        edges.extend([(row[k], row[k + 1]) for k in range(beats)])
+    return edges
+
+
+def beside(web):
+    """All places, each with the set of its neighbours."""
+    near = {(name, name, 0): set() for name in web[0]}
+    for here, there in edges_of(web):
+        near.setdefault(here, set()).add(there)
+        near.setdefault(there, set()).add(here)
+    return near
+
+
+def slow_night(web, starters):
+    """The night by the words of point 8, one person or spot after another."""
+    near = beside(web)
+    told_by = {place: set() for place in near}
+    tellers = {(name, name, 0) for name in starters}
+    night = []
+    while True:
+        tellings = []
+        for here in near:
+            if here in tellers:
+                tellings.extend([(here, there) for there in near[here] - told_by[here]])
+        if not tellings:
+            return night
+        night.append(sorted(tellings))
+        told_by = {place: {one for one, other in tellings if other == place} for place in near}
+        tellers = {place for place in near if told_by[place]}
+
+
+def walk_lengths(web, starters):
+    """The least number of beats of a walk from a starter to (place, kind), a beat at a time."""
+    near = beside(web)
+    least = {}
+    at = {(name, name, 0) for name in starters}
+    for beats in range(2 * len(near) + 2):
+        for place in at:
+            least.setdefault((place, beats % 2), beats)
+        at = {there for place in at for there in near[place]}
+    return least
+
+
+def hearings_of(night):
+    """All (place, beat) of a night at which the place hears."""
+    return {(other, beat + 1) for beat, tellings in enumerate(night) for _, other in tellings}
+
+
+def picture(thing):
+    """What a thing is and holds, kinds too, to be set beside what it is later."""
+    if isinstance(thing, (list, tuple)):
+        return thing.__class__, [picture(part) for part in thing]
+    if isinstance(thing, dict):
+        return dict, [(key, picture(value)) for key, value in thing.items()]
+    return thing.__class__, set(thing) if isinstance(thing, set) else thing
+
+
+def unchanged(case, call, *handed):
+    """Assert that a call, told or refused, leaves all that was handed in as it was; give what it told."""
+    before = picture(handed)
+    try:
+        return call(*handed)
+    finally:
+        case.assertEqual(before, picture(handed))

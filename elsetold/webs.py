@@ -115,6 +115,14 @@ def places_beside(web, place):
     return sorted([place_on(way, number) for way in web[1] for number in numbers_beside(way, place)])
 
 
+def folk_beside(web, place):
+    """Give for the person, or for both ends of the spot's way, a tuple (name, beats from there to the place)."""
+    one, other, number = place
+    if number == 0:
+        return [(one, 0)]
+    return [(one, number), (other, beats_between(web, one, other) - number)]
+
+
 def neighbours(web, place):
     """Give the rising list of the place's neighbours."""
     own = own_web(web)

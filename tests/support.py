@@ -132,3 +132,102 @@ def unchanged(case, call, *handed):
         return call(*handed)
     finally:
         case.assertEqual(before, picture(handed))
+
+
+class SlowTold:
+    """All that a near web's night tells, by the words of points 4 and 8 alone."""
+
+    def __init__(self, web, starters):
+        self.near = beside(web)
+        self.starters = sorted(starters)
+        self.night = slow_night(web, starters)
+        self.least = walk_lengths(web, starters)
+        self.heard_of = {place: {} for place in self.near}
+        self.tells = {place: {} for place in self.near}
+        for beat, tellings in enumerate(self.night):
+            for one, other in tellings:
+                self.heard_of[other].setdefault(beat + 1, []).append(one)
+                self.tells[one].setdefault(beat, []).append(other)
+
+    def reaches(self, place):
+        return self.least.get((place, 0)), self.least.get((place, 1))
+
+    def hearers(self, beat):
+        return sorted([place for place in self.near if beat in self.heard_of[place]])
+
+    def dying(self):
+        return sorted([(beat, place) for place in self.near for beat in self.heard_of[place]
+                       if not self.tells[place].get(beat)])
+
+    def loudest(self):
+        found = [(len(self.hearers(beat)), -beat) for beat in range(1, len(self.night) + 1)]
+        many, beat = max(found, default=(0, 0))
+        return many, -beat
+
+
+def stretched(web, by):
+    """The web with each way so many times as long."""
+    return list(web[0]), [(one, other, beats * by) for one, other, beats in web[1]]
+
+
+def stretched_place(place, by):
+    """The place of a stretched web that lies where this one lay."""
+    return (place[0], place[1], place[2] * by)
+
+
+def far_webs(seed, many):
+    """So many webs with ways from 1 to 10 ** 12 beats, short and long ones side by side."""
+    chance = random.Random(seed)
+    webs = []
+    for folk, ways in some_webs(seed, many, 12, 9):
+        ways = [(one, other, chance.choice([beats, chance.randint(1, 10 ** 12), 10 ** 12 - beats + 1]))
+                for one, other, beats in ways]
+        webs.append((folk, ways))
+    return webs
+
+
+def big_web():
+    """Sixty folk and a hundred and fifty ways of one to three beats, in two parts and with somebody alone."""
+    folk = folk_of(60)
+    pairs = [(at, at + 1) for at in range(0, 40)] + [(at, at + 7) for at in range(0, 34)]
+    pairs += [(at, at + 12) for at in range(0, 29)] + [(at, at + 5) for at in range(0, 30)]
+    pairs += [(at, at + 1) for at in range(41, 58)]
+    return folk, sorted([(folk[one], folk[other], 1 + (one * 7 + other) % 3) for one, other in pairs])
+
+
+def least_far_walks(web, starters):
+    """The fewest beats of a walk from a starter to (name, kind), by going over all ways until nothing is less."""
+    least = {(name, 0): 0 for name in starters}
+    ends = web[1] + [(other, one, beats) for one, other, beats in web[1]]
+    changed = True
+    while changed:
+        changed = False
+        for one, other, beats in ends:
+            for kind in (0, 1):
+                there = (other, (kind + beats) % 2)
+                if (one, kind) in least and least.get(there, 10 ** 20) > least[(one, kind)] + beats:
+                    least[there] = least[(one, kind)] + beats
+                    changed = True
+    return least
+
+
+def places_of(web, most=9):
+    """All folk, and of each way the spots next to its ends and in its middle, or all of a short one."""
+    places = [(name, name, 0) for name in web[0]]
+    for one, other, beats in web[1]:
+        numbers = range(1, beats)
+        if beats > most:
+            numbers = [1, 2, beats // 2, beats // 2 + 1, beats - 2, beats - 1]
+        places.extend([(one, other, number) for number in numbers])
+    return places
+
+
+def far_level(web, least, place, kind):
+    """The fewest beats of a walk of the kind to a place of a web, of whatever length, by its folk's least ones."""
+    one, other, number = place
+    if one == other:
+        return least.get((one, kind))
+    whole = [beats for first, second, beats in web[1] if (first, second) == (one, other)][0]
+    found = [least[(name, (kind + more) % 2)] + more for name, more in [(one, number), (other, whole - number)]
+             if (name, (kind + more) % 2) in least]
+    return min(found, default=None)

@@ -5,7 +5,7 @@ import inspect
 import unittest
 from pathlib import Path
 
-from elsetold import beats, errors, webs
+from elsetold import beats, counts, errors, lots, papers, reaches, webs
 
 PACKAGE = Path(__file__).resolve().parent.parent / "elsetold"
 LIBRARY = {"heapq": ["heappush", "heappop"]}
@@ -18,6 +18,25 @@ setattr type vars sys""".split()
 INTERFACE = {
     webs: {"is_web": ["thing"], "neighbours": ["web", "place"], "parts": ["web"], "odd_round": ["web"]},
     beats: {"beat_by_beat": ["web", "starters"], "hearers_at": ["web", "starters", "beat"]},
+    reaches: {
+        "reaches": ["web", "starters", "place"], "hearings": ["web", "starters", "place"],
+        "heard_of": ["web", "starters", "place", "beat"], "tells": ["web", "starters", "place", "beat"],
+        "told_at": ["web", "starters", "place", "other"],
+    },
+    counts: {
+        "tellings": ["web", "starters"], "tellings_by": ["web", "starters", "beat"],
+        "how_many_hear": ["web", "starters", "beat"], "last_beat": ["web", "starters"],
+        "loudest": ["web", "starters"], "dying": ["web", "starters"],
+    },
+    papers: {
+        "walk_to": ["web", "starters", "place", "beat"], "is_walk": ["web", "starters", "place", "beat", "thing"],
+        "all_reaches": ["web", "starters"], "are_bounds": ["web", "starters", "thing"],
+        "shows_not_sooner": ["web", "starters", "place", "beat", "thing"],
+    },
+    lots: {
+        "whose": ["web", "starters", "place", "beat"], "gone_twice": ["web", "starters"],
+        "alike_from": ["web", "starters", "others"], "told_apart": ["web", "starters", "others"],
+    },
     errors: {"TooMany": ["many"], "NoText": ["row"]},
 }
 

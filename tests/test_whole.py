@@ -1,10 +1,15 @@
-"""The promise of the whole, as far as near webs show it [1, 4]."""
+"""The promise of the whole, by near webs' nights and by what is told however far [1, 4]."""
 
 import unittest
 
 from elsetold.beats import beat_by_beat, hearers_at
+from elsetold.counts import dying, how_many_hear, last_beat, loudest, tellings, tellings_by
+from elsetold.lots import alike_from, gone_twice, told_apart, whose
+from elsetold.papers import all_reaches, are_bounds, is_walk, shows_not_sooner, walk_to
+from elsetold.reaches import heard_of, hearings, reaches, tells, told_at
 from elsetold.webs import neighbours, odd_round, parts
-from tests.support import beside, edges_of, hearings_of, some_starters, some_webs, walk_lengths
+from tests.support import (beside, edges_of, far_level, far_webs, hearings_of, least_far_walks, places_of, some_starters,
+                           some_webs, walk_lengths)
 
 
 def nights(seed, many):
@@ -76,3 +81,123 @@ class Whole(unittest.TestCase):
             self.assertEqual(beat_by_beat(web, starters[::-1]), night)
             self.assertEqual([neighbours(web, place) for place in beside(web)],
                              [sorted(near) for near in beside(web).values()])
+
+
+def far_lots(seed, many):
+    """So many webs of ways of all lengths, with starters."""
+    return [(web, some_starters(seed + at, web[0])) for at, web in enumerate(far_webs(seed, many))]
+
+
+class HoweverFar(unittest.TestCase):
+    def test_a_near_web_is_told_the_same_by_the_night_and_ahead(self):
+        for web, starters, night in nights(79, 60):
+            heard, least = hearings_of(night), walk_lengths(web, starters)
+            for place in beside(web):
+                self.assertEqual(reaches(web, starters, place), (least.get((place, 0)), least.get((place, 1))))
+                self.assertEqual(hearings(web, starters, place), sorted([at for here, at in heard if here == place]))
+            self.assertEqual(last_beat(web, starters), len(night))
+            self.assertEqual(tellings(web, starters), sum([len(each) for each in night]))
+            for beat, each in enumerate(night):
+                self.assertEqual(each, sorted([(one, other) for one in beside(web)
+                                               for other in tells(web, starters, one, beat)]))
+                self.assertEqual(each, sorted([(one, other) for other in beside(web)
+                                               for one in heard_of(web, starters, other, beat + 1)]))
+                self.assertEqual(each, sorted([(one, other) for one, near in beside(web).items() for other in near
+                                               if beat in told_at(web, starters, one, other)]))
+
+    def test_everybody_hears_at_most_twice_at_the_least_beats_of_each_kind(self):
+        for web, starters in far_lots(83, 30):
+            least = least_far_walks(web, starters)
+            for place in places_of(web):
+                heard = hearings(web, starters, place)
+                self.assertLessEqual(len(heard), 2)
+                self.assertEqual(len({beat % 2 for beat in heard}), len(heard))
+                for beat in heard:
+                    self.assertEqual(beat, far_level(web, least, place, beat % 2))
+                if place[0] in starters and place[0] == place[1]:
+                    self.assertTrue(all([beat % 2 for beat in heard]))
+
+    def test_each_beat_of_each_way_is_gone_twice_or_once_or_never(self):
+        for web, starters in far_lots(89, 60):
+            twice = gone_twice(web, starters)
+            whole = 0
+            for part in parts(web):
+                beats = sum([way[2] for way in web[1] if way[0] in part])
+                begun = set(starters) & set(part)
+                least = least_far_walks(web, sorted(begun))
+                odd = any([(name, 1) in least for name in begun])
+                self.assertEqual(part in twice, odd)
+                whole += beats * 2 if odd else beats if begun else 0
+            self.assertEqual(tellings(web, starters), whole)
+            last = last_beat(web, starters)
+            self.assertEqual(tellings_by(web, starters, last), whole)
+            if last:
+                # The last tellings are made a beat ahead of the last hearing.
+                self.assertEqual(tellings_by(web, starters, last - 1), whole)
+            if last > 1:
+                self.assertLess(tellings_by(web, starters, last - 2), whole)
+
+    def test_the_last_hearing_is_the_greatest_of_the_least_numbers(self):
+        for web, starters in far_lots(97, 40):
+            least = least_far_walks(web, starters)
+            levels = [far_level(web, least, place, kind) or 0 for place in places_of(web) for kind in (0, 1)]
+            last = last_beat(web, starters)
+            self.assertLessEqual(max(levels), last)
+            self.assertEqual(how_many_hear(web, starters, last) > 0, last > 0)
+            self.assertEqual(how_many_hear(web, starters, last + 1), 0)
+            found = dying(web, starters)
+            self.assertEqual(max([beat for beat, _ in found], default=0), last)
+            for beat, place in found:
+                self.assertEqual(far_level(web, least, place, beat % 2), beat)
+                self.assertEqual(heard_of(web, starters, place, beat), neighbours(web, place))
+
+    def test_one_way_more_makes_no_hearing_of_its_kind_later(self):
+        for web, starters in far_lots(101, 40):
+            now = all_reaches(web, starters)
+            for at in range(len(web[1])):
+                fewer = (web[0], web[1][:at] + web[1][at + 1:])
+                for name, pair in all_reaches(fewer, starters).items():
+                    for kind in (0, 1):
+                        if pair[kind] is not None:
+                            self.assertLessEqual(now[name][kind], pair[kind])
+                # What no reach is less than in the whole web none is less than with a way less, either.
+                self.assertIs(are_bounds(fewer, starters, now), True)
+
+    def test_the_papers_show_just_what_is_told(self):
+        for web, starters in far_lots(103, 15):
+            paper = all_reaches(web, starters)
+            for place in places_of(web)[::2]:
+                for kind, beat in enumerate(reaches(web, starters, place)):
+                    names = walk_to(web, starters, place, kind)
+                    self.assertEqual(names is None, beat is None)
+                    if beat is not None:
+                        self.assertIs(is_walk(web, starters, place, beat, names), True)
+                        self.assertIs(shows_not_sooner(web, starters, place, beat, paper), True)
+                        self.assertIs(shows_not_sooner(web, starters, place, beat + 2, paper), False)
+                        self.assertIn(names[0], whose(web, starters, place, beat))
+
+    def test_all_of_two_lots_together_hear_at_the_lesser_of_both(self):
+        for at, (web, starters) in enumerate(far_lots(107, 30)):
+            others = some_starters(at, web[0])
+            both = all_reaches(web, sorted(set(starters) | set(others)))
+            one, other = all_reaches(web, starters), all_reaches(web, others)
+            for name, pair in both.items():
+                for kind in (0, 1):
+                    found = [beat for beat in (one[name][kind], other[name][kind]) if beat is not None]
+                    self.assertEqual(pair[kind], min(found, default=None))
+            last = max(last_beat(web, starters), last_beat(web, others))
+            self.assertLessEqual(alike_from(web, starters, others), last + 1)
+            least = told_apart(web, starters, others)
+            if least:
+                beat, name = least
+                self.assertNotEqual(beat in one[name], beat in other[name])
+                self.assertLess(beat, alike_from(web, starters, others))
+
+    def test_the_loudest_beat_is_the_first_of_its_kind(self):
+        for web, starters in far_lots(109, 40):
+            many, beat = loudest(web, starters)
+            self.assertEqual(how_many_hear(web, starters, beat), many)
+            if beat:
+                self.assertLess(how_many_hear(web, starters, beat - 1), many)
+            for now in [1, 2, beat + 1, beat + 2, last_beat(web, starters)]:
+                self.assertLessEqual(how_many_hear(web, starters, now), many)

@@ -36,12 +36,17 @@ def is_at(web, least, place, beat):
     return reach_of(web, least, place, beat % 2) == beat
 
 
-def tellers_of(web, least, place, beat):
-    """Give the rising list of the neighbours who told the place what it tells on at the beat.
-
-    A neighbour that is reached a beat ahead of it has told it; each other one is told by it.
-    """
-    return [other for other in places_beside(web, place) if is_at(web, least, other, beat - 1)]
+def both_sides(web, starters, place, beat):
+    """Give the rising lists of the neighbours of whom the place hears at the beat, and of those whom it tells then."""
+    own, least = own_night(web, starters)
+    here = own_place(own, place)
+    check_beat(beat)
+    if not is_at(own, least, here, beat):
+        return [], []
+    near = places_beside(own, here)
+    # A neighbour that is reached a beat ahead has told the place; each other one is reached a beat later.
+    tellers = [other for other in near if is_at(own, least, other, beat - 1)]
+    return tellers, [other for other in near if other not in tellers]
 
 
 def reaches(web, starters, place):
@@ -61,23 +66,12 @@ def hearings(web, starters, place):
 
 def heard_of(web, starters, place, beat):
     """Give the rising list of the neighbours of whom the place hears at the beat."""
-    own, least = own_night(web, starters)
-    here = own_place(own, place)
-    check_beat(beat)
-    if not is_at(own, least, here, beat):
-        return []
-    return tellers_of(own, least, here, beat)
+    return both_sides(web, starters, place, beat)[0]
 
 
 def tells(web, starters, place, beat):
     """Give the rising list of the neighbours whom the place tells at the beat."""
-    own, least = own_night(web, starters)
-    here = own_place(own, place)
-    check_beat(beat)
-    if not is_at(own, least, here, beat):
-        return []
-    tellers = tellers_of(own, least, here, beat)
-    return [other for other in places_beside(own, here) if other not in tellers]
+    return both_sides(web, starters, place, beat)[1]
 
 
 def told_at(web, starters, place, other):

@@ -1,7 +1,8 @@
 """What the tests share: odd things, webs, and slow answers straight from the document's words."""
 
 import random
-from itertools import combinations
+import unittest
+from itertools import chain, combinations, product
 
 
 def deep(many):
@@ -231,3 +232,21 @@ def far_level(web, least, place, kind):
     found = [least[(name, (kind + more) % 2)] + more for name, more in [(one, number), (other, whole - number)]
              if (name, (kind + more) % 2) in least]
     return min(found, default=None)
+
+
+def three_folk_lots(lengths):
+    """All webs of three folk with ways of these lengths (0: no way), each with all lots of starters."""
+    pairs = list(combinations("abc", 2))
+    lots = list(chain.from_iterable([combinations("abc", many) for many in (1, 2, 3)]))
+    webs = [web_of("abc", {pair: beats for pair, beats in zip(pairs, row) if beats}) for row in product(lengths, repeat=3)]
+    return [(web, lots) for web in webs]
+
+
+class AskingCase(unittest.TestCase):
+    """Tests that ask one thing after another."""
+
+    def assert_told(self, told, call, *handed):
+        """The call tells just this, of this kind, and leaves what it was handed as it was."""
+        found = unchanged(self, call, *handed)
+        self.assertEqual(found, told)
+        self.assertIs(found.__class__, told.__class__)

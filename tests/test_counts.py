@@ -1,11 +1,10 @@
 """How many tellings, how many hear, the loudest and the last beat, and where the cry dies [4, 13, 14]."""
 
-import unittest
-from itertools import chain, combinations, product
+from itertools import combinations
 
 from elsetold.counts import dying, how_many_hear, last_beat, loudest, tellings, tellings_by
-from tests.support import (SlowTold, big_web, far_level, far_webs, least_far_walks, places_of, some_starters, some_webs,
-                           stretched, stretched_place, unchanged, web_of)
+from tests.support import (AskingCase, SlowTold, big_web, far_level, far_webs, least_far_walks, places_of,
+                           some_starters, some_webs, stretched, stretched_place, three_folk_lots)
 
 END = 10 ** 12
 A, B, C, D = [(name, name, 0) for name in "abcd"]
@@ -46,12 +45,7 @@ def beats_near(least, web):
     return sorted({max(0, mark + more) for mark in marks for more in (-1, 0, 1, 2)})
 
 
-class Case(unittest.TestCase):
-    def assert_told(self, told, call, *handed):
-        found = unchanged(self, call, *handed)
-        self.assertEqual(found, told)
-        self.assertIs(found.__class__, told.__class__)
-
+class Case(AskingCase):
     def assert_as_by_the_night(self, web, starters):
         slow = SlowTold(web, starters)
         self.assertEqual(tellings(web, starters), sum([len(each) for each in slow.night]))
@@ -65,10 +59,7 @@ class Case(unittest.TestCase):
 
 class Night(Case):
     def test_all_webs_of_three_folk(self):
-        pairs = [("a", "b"), ("a", "c"), ("b", "c")]
-        lots = list(chain.from_iterable([combinations("abc", many) for many in (1, 2, 3)]))
-        for lengths in product([0, 1, 2, 3, 4], repeat=3):
-            web = web_of("abc", {pair: beats for pair, beats in zip(pairs, lengths) if beats})
+        for web, lots in three_folk_lots([0, 1, 2, 3, 4]):
             for lot in lots:
                 self.assert_as_by_the_night(web, list(lot))
 

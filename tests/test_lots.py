@@ -1,12 +1,12 @@
 """Whose walks come to a place, which parts are gone twice, and two lots of starters [4, 17, 18]."""
 
-import unittest
 from itertools import chain, combinations, product
 
 from elsetold.lots import alike_from, gone_twice, told_apart, whose
 from elsetold.webs import parts
-from tests.support import (SlowTold, beside, big_web, edges_of, far_level, far_webs, hearings_of, least_far_walks,
-                           places_of, slow_night, some_starters, some_webs, stretched, stretched_place, unchanged, web_of)
+from tests.support import (AskingCase, SlowTold, beside, big_web, edges_of, far_level, far_webs, hearings_of,
+                           least_far_walks, places_of, slow_night, some_starters, some_webs, stretched,
+                           stretched_place, three_folk_lots, unchanged)
 
 END = 10 ** 12
 A, B, C, D = [(name, name, 0) for name in "abcd"]
@@ -28,14 +28,7 @@ def apart_by_the_night(web, starters, others):
     return max([beat + 1 for _, beat in only], default=0), min(folk, default=None)
 
 
-class Case(unittest.TestCase):
-    def assert_told(self, told, call, *handed):
-        found = unchanged(self, call, *handed)
-        self.assertEqual(found, told)
-        self.assertIs(found.__class__, told.__class__)
-
-
-class Whose(Case):
+class Whose(AskingCase):
     def test_ordinary(self):
         self.assert_told(["a"], whose, FIVE, ["a", "b"], ("a", "b", 2), 2)
         self.assert_told(["b"], whose, FIVE, ["a", "b"], ("a", "b", 2), 3)
@@ -111,7 +104,7 @@ class Whose(Case):
                                          told if beat or place[0] != place[1] else [place[0]])
 
 
-class GoneTwice(Case):
+class GoneTwice(AskingCase):
     def test_odd_rounds(self):
         for name in "aceh":
             self.assert_told([["a", "c", "e", "h"]], gone_twice, PARTS, [name])
@@ -148,7 +141,7 @@ class GoneTwice(Case):
             self.assert_told(told, gone_twice, web, starters)
 
 
-class TwoLots(Case):
+class TwoLots(AskingCase):
     def assert_apart(self, beat, least, web, starters, others):
         """Both answers, by the two lots in either order."""
         for one, other in [(starters, others), (others, starters)]:
@@ -207,10 +200,7 @@ class TwoLots(Case):
         self.assert_apart(3, (2, "b"), star, ["b"], ["c"])
 
     def test_all_webs_of_three_folk_and_all_lots(self):
-        pairs = [("a", "b"), ("a", "c"), ("b", "c")]
-        lots = list(chain.from_iterable([combinations("abc", many) for many in (1, 2, 3)]))
-        for lengths in product([0, 1, 2, 3, 6], repeat=3):
-            web = web_of("abc", {pair: beats for pair, beats in zip(pairs, lengths) if beats})
+        for web, lots in three_folk_lots([0, 1, 2, 3, 6]):
             nights = {lot: hearings_of(slow_night(web, lot)) for lot in lots}
             for one, other in product(lots, repeat=2):
                 only = nights[one] ^ nights[other]

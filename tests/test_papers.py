@@ -1,13 +1,12 @@
 """Papers that a place has a walk, and that it doesn't hear sooner [4, 15, 16]."""
 
-import unittest
 from itertools import product
 from unittest.mock import ANY
 
 from elsetold.papers import all_reaches, are_bounds, is_walk, shows_not_sooner, walk_to
 from elsetold.reaches import reaches
-from tests.support import (ODD_THINGS, SlowTold, big_web, far_level, far_webs, least_far_walks, places_of, some_starters,
-                           some_webs, stretched, stretched_place, unchanged)
+from tests.support import (ODD_THINGS, AskingCase, SlowTold, big_web, far_level, far_webs, least_far_walks, places_of,
+                           some_starters, some_webs, stretched, stretched_place, unchanged)
 
 END = 10 ** 12
 A, B, C, D = [(name, name, 0) for name in "abcd"]
@@ -34,14 +33,7 @@ def beats_of(web, names, place):
     return sum([lengths[step] for step in steps]) + more[names[-1]]
 
 
-class Case(unittest.TestCase):
-    def assert_told(self, told, call, *handed):
-        found = unchanged(self, call, *handed)
-        self.assertEqual(found, told)
-        self.assertIs(found.__class__, told.__class__)
-
-
-class WalkTo(Case):
+class WalkTo(AskingCase):
     def test_ordinary(self):
         self.assert_told(["a"], walk_to, WEB, ["a"], A, 0)
         self.assert_told(["a", "b"], walk_to, WEB, ["a"], B, 2)
@@ -135,7 +127,7 @@ class WalkTo(Case):
                 self.assertEqual(names and beats_of(far, names, stretched_place(place, by)), beats and beats * by)
 
 
-class IsWalk(Case):
+class IsWalk(AskingCase):
     def assert_walk(self, web, starters, place, beat, thing):
         self.assert_told(True, is_walk, web, starters, place, beat, thing)
         self.assert_told(True, is_walk, web, starters, place, beat, tuple(thing))
@@ -220,7 +212,7 @@ class IsWalk(Case):
                         self.assert_told(good, is_walk, WEB, ["a"], place, beat, list(names))
 
 
-class AllReaches(Case):
+class AllReaches(AskingCase):
     def test_ordinary(self):
         self.assert_told(REACHES, all_reaches, WEB, ["a"])
         self.assert_told({"a": (0, None), "b": (None, 5)}, all_reaches, FIVE, ["a"])
@@ -239,7 +231,7 @@ class AllReaches(Case):
             self.assertIs(are_bounds(web, starters, told), True)
 
 
-class AreBounds(Case):
+class AreBounds(AskingCase):
     def assert_bounds(self, wanted, web, starters, **others):
         """Of the reaches of all, with these in the place of theirs."""
         thing = {**all_reaches(web, starters), **others}
@@ -352,7 +344,7 @@ class AreBounds(Case):
                     self.assertLessEqual(number, told[name][kind])
 
 
-class ShowsNotSooner(Case):
+class ShowsNotSooner(AskingCase):
     def shows(self, wanted, place, beat, web=WEB, starters=("a",), thing=None):
         self.assert_told(wanted, shows_not_sooner, web, list(starters), place, beat, thing or REACHES)
 

@@ -1,13 +1,10 @@
 """A place's reaches and hearings, of whom it hears, and whom it tells when [4, 10, 11, 12]."""
 
-import unittest
-from itertools import chain, combinations, product
-
 from elsetold.errors import NoNeighbour, NoPlace
 from elsetold.reaches import heard_of, hearings, reaches, tells, told_at
 from elsetold.webs import neighbours
-from tests.support import (SlowTold, big_web, far_level, far_webs, least_far_walks, places_of, some_starters, some_webs,
-                           stretched, stretched_place, unchanged, web_of)
+from tests.support import (AskingCase, SlowTold, big_web, far_level, far_webs, least_far_walks, places_of,
+                           some_starters, some_webs, stretched, stretched_place, three_folk_lots, unchanged)
 
 END = 10 ** 12
 A, B, C, D = [(name, name, 0) for name in "abcd"]
@@ -18,12 +15,7 @@ FAR = (["a", "b", "c", "d"], [("a", "b", END), ("c", "d", 3)])
 THREE = (["a", "b", "c"], [("a", "b", 1), ("a", "c", 1), ("b", "c", 1)])
 
 
-class Case(unittest.TestCase):
-    def assert_told(self, told, call, *handed):
-        found = unchanged(self, call, *handed)
-        self.assertEqual(found, told)
-        self.assertIs(found.__class__, told.__class__)
-
+class Case(AskingCase):
     def assert_as_by_the_night(self, web, starters):
         """All five functions, of every place and of all beats till the night is quiet, held against the night."""
         slow = SlowTold(web, starters)
@@ -105,10 +97,7 @@ class Reaches(Case):
 
 class Night(Case):
     def test_all_webs_of_three_folk(self):
-        pairs = [("a", "b"), ("a", "c"), ("b", "c")]
-        lots = list(chain.from_iterable([combinations("abc", many) for many in (1, 2, 3)]))
-        for lengths in product([0, 1, 2, 3], repeat=3):
-            web = web_of("abc", {pair: beats for pair, beats in zip(pairs, lengths) if beats})
+        for web, lots in three_folk_lots([0, 1, 2, 3]):
             for lot in lots:
                 self.assert_as_by_the_night(web, list(lot))
 

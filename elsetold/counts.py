@@ -31,6 +31,16 @@ def many_at(rows, beat):
     return len([first for first, last in rows if first <= beat <= last])
 
 
+def many_made_by(web, least, beat):
+    """Give how many tellings have been made by the beat, those of this beat too."""
+    return sum([max(0, min(many, beat + 1 - start)) for start, many in telling_rows(web, least)])
+
+
+def last_hearing(web, least):
+    """Give the last beat at which anybody hears, 0 where nobody does."""
+    return max([last for _, last in hearing_rows(web, least)], default=0)
+
+
 def is_told_by_all(ends, least, name, beat):
     """Tell whether one of the folk, who hears at the beat, does so from all sides."""
     return all([least.get((other, (beat - beats) % 2)) == beat - beats for other, beats in ends[name]])
@@ -46,7 +56,7 @@ def tellings_by(web, starters, beat):
     """Give how many tellings have been made by the beat, those of this beat too."""
     own, least = own_night(web, starters)
     check_beat(beat)
-    return sum([max(0, min(many, beat + 1 - start)) for start, many in telling_rows(own, least)])
+    return many_made_by(own, least, beat)
 
 
 def how_many_hear(web, starters, beat):
@@ -59,7 +69,7 @@ def how_many_hear(web, starters, beat):
 def last_beat(web, starters):
     """Give the last beat at which anybody hears, 0 where nobody does."""
     own, least = own_night(web, starters)
-    return max([last for _, last in hearing_rows(own, least)], default=0)
+    return last_hearing(own, least)
 
 
 def loudest(web, starters):

@@ -9,6 +9,13 @@ def is_whole(thing):
     return isinstance(thing, int) and not isinstance(thing, bool)
 
 
+def are_beats(thing):
+    """Tell whether it is a rising list of whole numbers from 1 on."""
+    if not is_row(thing) or not all([is_whole(beat) and beat >= 1 for beat in thing]):
+        return False
+    return rises(thing)
+
+
 def is_row(thing):
     """Tell whether it is a list or a tuple, which stand for one another."""
     return isinstance(thing, (list, tuple))

@@ -36,6 +36,12 @@ def is_at(web, least, place, beat):
     return reach_of(web, least, place, beat % 2) == beat
 
 
+def heard_beats(web, least, place):
+    """Give the rising list of the beats at which the place hears."""
+    found = [reach_of(web, least, place, kind) for kind in (0, 1)]
+    return sorted([beat for beat in found if beat is not None and beat > 0])
+
+
 def both_sides(web, starters, place, beat):
     """Give the rising lists of the neighbours of whom the place hears at the beat, and of those whom it tells then."""
     own, least = own_night(web, starters)
@@ -59,9 +65,7 @@ def reaches(web, starters, place):
 def hearings(web, starters, place):
     """Give the rising list of the beats at which the place hears the cry."""
     own, least = own_night(web, starters)
-    here = own_place(own, place)
-    found = [reach_of(own, least, here, kind) for kind in (0, 1)]
-    return sorted([beat for beat in found if beat is not None and beat > 0])
+    return heard_beats(own, least, own_place(own, place))
 
 
 def heard_of(web, starters, place, beat):

@@ -25,6 +25,14 @@ def all_from(ends, name):
     return sorted(met)
 
 
+def both_least(one, other):
+    """Give the least walks from the starters of two lots together, by those from each lot."""
+    least = {key: one[key] for key in one}
+    for key, beats in other.items():
+        least[key] = min(beats, least.get(key, beats))
+    return least
+
+
 def least_walks(ends, starters):
     """Give a dict from (name, kind) to the fewest beats of a walk of that kind from a starter.
 

@@ -3,6 +3,7 @@
 import random
 import unittest
 from itertools import chain, combinations, product
+from unittest.mock import ANY
 
 
 def deep(many):
@@ -23,15 +24,43 @@ ODD_THINGS = [
 
 # Three in a round of ways, one beyond, one by herself.
 WEB = (["ann", "bob", "cat", "dan", "eve"], [("ann", "bob", 1), ("ann", "cat", 3), ("bob", "cat", 2), ("cat", "dan", 1)])
+FOLK, END = WEB[0], 10 ** 12
+# None of these is what its name says, of this web and of others with these folk and ways.
+NO_BEATS = [-1, -END, -10 ** 39, True, False, None, "0", "3", b"3", [3], (3,), {}, {3}, {3: 3}]
+NO_STARTERS = [[], (), ["ann", "ann"], ["fay"], ["ann", "fay"], ["ann", None], "ann", {"ann": 1}, {"ann"}, None, True,
+               [["ann"]], [("ann", "ann", 0)], ANY, [ANY]]
+NO_PLACES = [("ann", "ann", 1), ("ann", "ann", False), ("fay", "fay", 0), ("ann", "cat", 0), ("ann", "cat", 3),
+             ("cat", "ann", 1), ("ann", "bob", 1), ("ann", "dan", 1), ("ann", "cat", True), ("ann", "cat", -1),
+             ("ann", "cat", None), ("ann", "ann"), ("ann",), "ann", (), [], None, 0, True, {}, ("ann", "ann", 0, 0),
+             (["ann"], ["ann"], 0), ANY, (ANY, ANY, 0), ("ann", "cat", ANY)]
+NO_WEBS = [None, [], (), "web", FOLK, (FOLK,), (FOLK, None), ([], []), (FOLK, [("ann", "bob", 0)]), (FOLK, [], []),
+           (FOLK, [("ann", "bob", END + 1)]), {0: FOLK, 1: []}, ANY]
+# None is a record of any folk.
+NO_RECORDS = [
+    None, [], (), "a", ["a"], {"a": []}, {"a": None}, {"a": ([],)},
+    {"a": ([], [], [])}, {"a": ({}, [])}, {"a": ([], {})}, {"a": ("", "")}, {"a": ([0], [])}, {"a": ([-1], [])},
+    {"a": ([2, 1], [])}, {"a": ([2, 2], [])}, {"a": ([True], [])}, {"a": ([1, True], [])}, {"a": (["1"], [])},
+    {"a": ([None], [])}, {"a": (1, [])}, {"a": ([], 1)}, {"a": ([], [1, 2])}, {"a": ([], [(1,)])},
+    {"a": ([], [(1, 2, 3)])}, {"a": ([], [(0, 2)])}, {"a": ([], [(0, 0)])}, {"a": ([], [(3, 2)])},
+    {"a": ([], [(-1, 2)])}, {"a": ([], [(True, 2)])}, {"a": ([], [(1, True)])}, {"a": ([], [(1, None)])},
+    {"a": ([], [(1, 2), (4, 3)])}, {"a": ([], [["1", 2]])}, {"a": {0: [], 1: []}}, {1: ([], [])}, {True: ([], [])},
+    {None: ([], [])}, {("a",): ([], [])}, {"A": ([], [])}, {"": ([], [])}, {b"a": ([], [])}, {("a", "a", 0): ([], [])},
+    {"a": ([], []), "b": None}, ANY, {"a": ANY}, {"a": (ANY, [])}, {"a": ([ANY], [])}, {"a": ([], [ANY])},
+    {"a": ([], [(1, ANY)])},
+]
 
 
 def listed(thing):
     """The same with lists in place of all tuples."""
+    if isinstance(thing, dict):
+        return {key: listed(value) for key, value in thing.items()}
     return [listed(part) for part in thing] if isinstance(thing, (list, tuple)) else thing
 
 
 def tupled(thing):
     """The same with tuples in place of all lists."""
+    if isinstance(thing, dict):
+        return {key: tupled(value) for key, value in thing.items()}
     return tuple([tupled(part) for part in thing]) if isinstance(thing, (list, tuple)) else thing
 
 
@@ -133,6 +162,20 @@ def unchanged(case, call, *handed):
         return call(*handed)
     finally:
         case.assertEqual(before, picture(handed))
+
+
+def spoil(thing):
+    """Change a thing, and whatever is within it, as far as it can be changed."""
+    if isinstance(thing, (list, tuple)):
+        for part in thing:
+            spoil(part)
+    if isinstance(thing, dict):
+        for part in thing.values():
+            spoil(part)
+        thing["ann"] = thing["zoe"] = "spoilt"
+    if isinstance(thing, list):
+        thing.reverse()
+        thing.append("spoilt")
 
 
 class SlowTold:
@@ -250,3 +293,10 @@ class AskingCase(unittest.TestCase):
         found = unchanged(self, call, *handed)
         self.assertEqual(found, told)
         self.assertIs(found.__class__, told.__class__)
+
+    def assert_refused(self, error, call, *handed):
+        """The call is refused by just this class, and leaves what it was handed as it was."""
+        with self.assertRaises(error) as caught:
+            unchanged(self, call, *handed)
+        self.assertIs(caught.exception.__class__, error, str(handed)[:300])
+        return caught.exception

@@ -6,7 +6,8 @@ from itertools import product
 from unittest.mock import ANY
 
 from elsetold import counts, errors, lots, papers, reaches
-from tests.support import ODD_THINGS, listed, picture, tupled, unchanged
+from tests.support import (NO_BEATS, NO_PLACES, NO_STARTERS, NO_WEBS, ODD_THINGS, listed, picture, spoil, tupled,
+                           unchanged)
 
 ASKED = {
     reaches.reaches: ["web", "starters", "place"],
@@ -66,35 +67,12 @@ WRONG = {"web": (FOLK, WEB[1] * 2), "starters": ["ann", "ann"], "place": ("cat",
          "beat": -1, "others": []}
 ERRORS = {"web": errors.NoWeb, "starters": errors.NoStarters, "place": errors.NoPlace, "other": errors.NoPlace,
           "beat": errors.NoBeat, "others": errors.NoStarters}
-NO_BEATS = [-1, -END, -10 ** 39, True, False, None, "0", "3", b"3", [3], (3,), {}, {3}, {3: 3}]
-NO_STARTERS = [[], (), ["ann", "ann"], ["fay"], ["ann", "fay"], ["ann", None], "ann", {"ann": 1}, {"ann"}, None, True,
-               [["ann"]], [("ann", "ann", 0)], ANY, [ANY]]
-NO_PLACES = [("ann", "ann", 1), ("ann", "ann", False), ("fay", "fay", 0), ("ann", "cat", 0), ("ann", "cat", 3),
-             ("cat", "ann", 1), ("ann", "bob", 1), ("ann", "dan", 1), ("ann", "cat", True), ("ann", "cat", -1),
-             ("ann", "cat", None), ("ann", "ann"), ("ann",), "ann", (), [], None, 0, True, {}, ("ann", "ann", 0, 0),
-             (["ann"], ["ann"], 0), ANY, (ANY, ANY, 0), ("ann", "cat", ANY)]
-NO_WEBS = [None, [], (), "web", FOLK, (FOLK,), (FOLK, None), ([], []), (FOLK, [("ann", "bob", 0)]), (FOLK, [], []),
-           (FOLK, [("ann", "bob", END + 1)]), {0: FOLK, 1: []}, ANY]
 
 
 def handed_to(call, **others):
     """A row of good things for the call, each a copy, with these ones in the place of theirs."""
     found = {**GOOD, "thing": THINGS.get(call), **others}
     return [copy.deepcopy(found[name]) if found[name] is not ANY else ANY for name in ASKED[call]]
-
-
-def spoil(thing):
-    """Change a thing, and whatever is within it, as far as it can be changed."""
-    if isinstance(thing, (list, tuple)):
-        for part in thing:
-            spoil(part)
-    if isinstance(thing, dict):
-        for part in thing.values():
-            spoil(part)
-        thing["ann"] = thing["zoe"] = "spoilt"
-    if isinstance(thing, list):
-        thing.reverse()
-        thing.append("spoilt")
 
 
 class Case(unittest.TestCase):

@@ -1,13 +1,12 @@
 """A near web's night, beat by beat [2, 3, 8, 9]."""
 
-import unittest
 from itertools import chain, combinations, permutations, product
 from unittest.mock import ANY
 
 from elsetold.beats import beat_by_beat, hearers_at
 from elsetold.errors import NoBeat, NoStarters, NoWeb, TooMany
-from tests.support import (ODD_THINGS, WEB, folk_of, hearings_of, listed, slow_night, some_starters, some_webs, tupled,
-                           unchanged, web_of)
+from tests.support import (ODD_THINGS, WEB, AskingCase, folk_of, hearings_of, listed, slow_night, some_starters,
+                           some_webs, tupled, unchanged, web_of)
 
 PAIR = (["a", "b"], [("a", "b", 1)])
 A, B, C = ("a", "a", 0), ("b", "b", 0), ("c", "c", 0)
@@ -15,7 +14,7 @@ NEAR = (["a", "b", "c"], [("a", "b", 399), ("b", "c", 1)])
 OVER = (["a", "b", "c"], [("a", "b", 399), ("b", "c", 2)])
 
 
-class Case(unittest.TestCase):
+class Case(AskingCase):
     def night(self, web, starters):
         told = unchanged(self, beat_by_beat, web, starters)
         self.assertIs(told.__class__, list)
@@ -31,12 +30,6 @@ class Case(unittest.TestCase):
         self.assertTrue(all([place.__class__ is tuple for place in told]))
         return told
 
-    def assert_refused(self, error, call, *handed):
-        with self.assertRaises(error) as caught:
-            unchanged(self, call, *handed)
-        self.assertIs(caught.exception.__class__, error)
-        return caught.exception
-
 
 class Night(Case):
     def test_a_cry_along_a_way(self):
@@ -47,7 +40,8 @@ class Night(Case):
 
     def test_who_is_told_by_all_neighbours_tells_nobody(self):
         self.assertEqual(self.night(PAIR, ["a", "b"]), [[(A, B), (B, A)]])
-        self.assertEqual(self.night((["a", "b"], [("a", "b", 2)]), ["a", "b"]), [[(A, ("a", "b", 1)), (B, ("a", "b", 1))]])
+        self.assertEqual(self.night((["a", "b"], [("a", "b", 2)]), ["a", "b"]),
+                         [[(A, ("a", "b", 1)), (B, ("a", "b", 1))]])
 
     def test_round_three(self):
         web = (["a", "b", "c"], [("a", "b", 1), ("a", "c", 1), ("b", "c", 1)])
@@ -153,7 +147,8 @@ class Hearers(Case):
             starters = some_starters(at, web[0])
             heard = hearings_of(slow_night(web, starters))
             for beat in range(30):
-                self.assertEqual(self.hearers(web, starters, beat), sorted([place for place, at in heard if at == beat]))
+                self.assertEqual(self.hearers(web, starters, beat),
+                                 sorted([place for place, at in heard if at == beat]))
 
     def test_by_names_and_with_lists(self):
         told = [("ann", "cat", 1), ("bob", "bob", 0)]

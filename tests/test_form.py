@@ -5,12 +5,15 @@ import inspect
 import unittest
 from pathlib import Path
 
-from elsetold import beats, counts, errors, lots, papers, reaches, webs
+from elsetold import (beats, choosing, counts, desk, errors, lots, nights, papers, reaches, texts, underway, watchers,
+                      ways, webs)
 
 PACKAGE = Path(__file__).resolve().parent.parent / "elsetold"
 LIBRARY = {"heapq": ["heappush", "heappop"]}
 BUILTINS = """len range enumerate zip min max sum abs sorted reversed int str bool list tuple dict set isinstance ord repr
 any all divmod super ValueError""".split()
+METHODS_OF_BUILTINS = """append count endswith extend find get index insert items join keys partition pop remove replace
+setdefault split startswith strip update values __init__""".split()
 BARRED_NODES = (ast.Global, ast.AsyncFunctionDef, ast.AsyncFor, ast.AsyncWith, ast.Await, ast.Div, ast.Import)
 BARRED_WORDS = """register mro elements open input law version_info with_traceback add_note attrgetter breakpoint builtins
 compile copyright credits delattr dir eval exec exit gc globals help id importlib license locals methodcaller os quit
@@ -37,7 +40,31 @@ INTERFACE = {
         "whose": ["web", "starters", "place", "beat"], "gone_twice": ["web", "starters"],
         "alike_from": ["web", "starters", "others"], "told_apart": ["web", "starters", "others"],
     },
+    watchers: {
+        "may_begin": ["web", "record"], "lots_counted": ["web", "record"], "least_lot": ["web", "record"],
+        "torn": ["web", "record"], "is_torn": ["web", "record", "thing"],
+    },
+    ways: {
+        "with_way": ["web", "one", "other", "beats"], "without_way": ["web", "one", "other"],
+        "needless": ["web", "starters"], "in_all_odd_rounds": ["web"],
+    },
+    choosing: {
+        "soonest": ["web"], "latest": ["web"], "alone_by": ["web", "place", "beats"], "best_two": ["web"],
+    },
+    underway: {"next_tellings": ["web", "said"], "round_of": ["web", "said"]},
+    nights: {"Night": ["web"]},
+    texts: {"show_web": ["web"], "show_record": ["record"], "read_web": ["text"], "read_record": ["text"]},
+    desk: {"Desk": []},
     errors: {"TooMany": ["many"], "NoText": ["row"]},
+}
+METHODS = {
+    nights.Night: {
+        "begin": ["cry", "starters"], "go_on": ["beats"], "add": ["one", "other", "beats"], "lose": ["one", "other"],
+        "back": [], "web_now": [], "beat_now": [], "told": ["cry"], "last_of": ["cry"], "cries": [],
+        "heard_at": ["cry", "place"], "cries_heard": ["place"], "quiet_cries": [], "history": [], "twin": [],
+        "__eq__": ["other"], "__len__": [],
+    },
+    desk.Desk: {"say": ["row"]},
 }
 
 
@@ -77,7 +104,15 @@ class Form(unittest.TestCase):
                 if isinstance(node, ast.ImportFrom):
                     self.assert_import(path, node)
                 if isinstance(node, ast.Assign):
-                    ast.literal_eval(node.value)
+                    functions = [each.name for each in tree.body if isinstance(each, ast.FunctionDef)]
+                    self.assert_plain(node.value, functions)
+
+    def assert_plain(self, value, functions):
+        """A module's value is plain, or a dict of functions of that file."""
+        if isinstance(value, ast.Dict) and isinstance(value.values[0], ast.Name):
+            self.assertLessEqual({each.id for each in value.values}, set(functions))
+        else:
+            ast.literal_eval(value)
 
     def assert_import(self, path, node):
         self.assertEqual(node.level, 0, path)
@@ -89,6 +124,7 @@ class Form(unittest.TestCase):
         self.assertTrue(node.module.startswith("elsetold."), path)
         source = ast.parse((PACKAGE / (node.module.split(".")[1] + ".py")).read_text(encoding="utf-8"))
         defined = [each.name for each in source.body if isinstance(each, (ast.FunctionDef, ast.ClassDef))]
+        defined.extend([each.targets[0].id for each in source.body if isinstance(each, ast.Assign)])
         self.assertLessEqual(set(names), set(defined), path)
 
     def test_words_and_signs_that_do_not_occur(self):
@@ -114,6 +150,27 @@ class Form(unittest.TestCase):
             self.assertLessEqual(read - bound, set(BUILTINS), path)
             self.assertFalse(bound & set(dir(__builtins__) if inspect.ismodule(__builtins__) else __builtins__), path)
 
+    def test_no_variable_has_the_name_of_an_import_or_a_class(self):
+        for path, _, tree in files():
+            fixed = {alias.name for node in tree.body if isinstance(node, ast.ImportFrom) for alias in node.names}
+            fixed |= {node.name for node in tree.body if isinstance(node, (ast.ClassDef, ast.FunctionDef))}
+            local = {node.arg for node in ast.walk(tree) if isinstance(node, ast.arg)}
+            names = [node for node in ast.walk(tree) if isinstance(node, ast.Name)]
+            local |= {node.id for node in names if isinstance(node.ctx, ast.Store)}
+            self.assertFalse(fixed & local, path)
+
+    def test_methods_of_builtin_values(self):
+        own = {node.name for _, _, tree in files() for node in ast.walk(tree) if isinstance(node, ast.FunctionDef)}
+        for path, _, tree in files():
+            for node in ast.walk(tree):
+                if isinstance(node, ast.Call) and isinstance(node.func, ast.Attribute):
+                    self.assertIn(node.func.attr, own | set(METHODS_OF_BUILTINS), path)
+
+    def test_nothing_is_caught_and_nothing_is_generated(self):
+        for path, _, tree in files():
+            for node in ast.walk(tree):
+                self.assertNotIsInstance(node, (ast.Try, ast.With, ast.Lambda, ast.GeneratorExp, ast.Yield), path)
+
     def test_everything_says_what_it_does(self):
         for path, _, tree in files():
             holders = [node for node in ast.walk(tree) if isinstance(node, (ast.ClassDef, ast.FunctionDef))]
@@ -128,8 +185,16 @@ class Interface(unittest.TestCase):
             for name, arguments in names.items():
                 made = getattr(module, name)
                 self.assertEqual(made.__module__, module.__name__)
-                signature = inspect.signature(made)
-                self.assertEqual(list(signature.parameters), arguments)
-                for argument in signature.parameters.values():
-                    self.assertEqual(argument.kind, argument.POSITIONAL_OR_KEYWORD)
-                    self.assertIs(argument.default, argument.empty)
+                self.assert_arguments(made, arguments)
+
+    def test_each_method_stands_in_its_own_class_with_its_arguments(self):
+        for made, names in METHODS.items():
+            for name, arguments in names.items():
+                self.assert_arguments(vars(made)[name], ["self", *arguments])
+
+    def assert_arguments(self, made, arguments):
+        signature = inspect.signature(made)
+        self.assertEqual(list(signature.parameters), arguments)
+        for argument in signature.parameters.values():
+            self.assertEqual(argument.kind, argument.POSITIONAL_OR_KEYWORD)
+            self.assertIs(argument.default, argument.empty)

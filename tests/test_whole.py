@@ -1,15 +1,23 @@
 """The promise of the whole, by near webs' nights and by what is told however far [1, 4]."""
 
+import random
 import unittest
 
 from elsetold.beats import beat_by_beat, hearers_at
+from elsetold.choosing import best_two, latest, soonest
 from elsetold.counts import dying, how_many_hear, last_beat, loudest, tellings, tellings_by
+from elsetold.desk import Desk
 from elsetold.lots import alike_from, gone_twice, told_apart, whose
+from elsetold.nights import Night
 from elsetold.papers import all_reaches, are_bounds, is_walk, shows_not_sooner, walk_to
 from elsetold.reaches import heard_of, hearings, reaches, tells, told_at
+from elsetold.texts import read_record, show_record, show_web
+from elsetold.underway import next_tellings, round_of
+from elsetold.watchers import is_torn, least_lot, lots_counted, may_begin, torn
+from elsetold.ways import in_all_odd_rounds, needless, with_way, without_way
 from elsetold.webs import neighbours, odd_round, parts
-from tests.support import (beside, edges_of, far_level, far_webs, hearings_of, least_far_walks, places_of, some_starters,
-                           some_webs, walk_lengths)
+from tests.support import (beside, edges_of, far_level, far_webs, hearings_of, least_far_walks, places_of,
+                           some_starters, some_webs, walk_lengths)
 
 
 def nights(seed, many):
@@ -201,3 +209,126 @@ class HoweverFar(unittest.TestCase):
                 self.assertLess(how_many_hear(web, starters, beat - 1), many)
             for now in [1, 2, beat + 1, beat + 2, last_beat(web, starters)]:
                 self.assertLessEqual(how_many_hear(web, starters, now), many)
+
+
+class AllTogether(unittest.TestCase):
+    """A cry of a Night, and what all other files tell of it."""
+
+    def lives(self, seed, many):
+        """So many tuples (web, starters, night, now): one cry in a Night, at some beat behind its beginning."""
+        chance, told = random.Random(seed), []
+        for at, web in enumerate(far_webs(seed, many) + some_webs(seed, many, 8, 6)):
+            starters = some_starters(at, web[0])
+            night = Night(web)
+            night.begin("hey", starters)
+            now = chance.choice([0, 1, 2, last_beat(web, starters), last_beat(web, starters) // 2 + 1, 10 ** 30])
+            night.go_on(now)
+            told.append((web, starters, night, now))
+        return told
+
+    def test_a_record_of_a_night_is_of_a_lot_that_may_have_begun(self):
+        for web, starters, night, now in self.lives(113, 25):
+            record = {}
+            for name in web[0]:
+                heard = night.heard_at("hey", (name, name, 0))
+                ends = [0, *heard, now + 1]
+                record[name] = (heard, [(one + 1, other - 1) for one, other in zip(ends, ends[1:]) if one + 1 < other])
+            greatest = may_begin(web, record)
+            self.assertLessEqual(set(starters), set(greatest))
+            self.assertIsNone(torn(web, record))
+            self.assertEqual(record, read_record(show_record(record)))
+            # By all of these together just the same is heard till now.
+            other = Night(web)
+            other.begin("hey", greatest)
+            other.go_on(now)
+            for name in web[0]:
+                self.assertEqual(other.heard_at("hey", (name, name, 0)), record[name][0])
+            if len(greatest) <= 12:
+                self.assertGreaterEqual(2 ** len(greatest) - 1, lots_counted(web, record))
+                self.assertLessEqual(len(least_lot(web, record)), len(starters))
+
+    def test_a_record_with_one_beat_wrong_is_torn_or_of_another_lot(self):
+        for web, starters, night, now in self.lives(127, 25):
+            for name in web[0]:
+                heard = night.heard_at("hey", (name, name, 0))
+                if heard:
+                    record = {name: (heard, [(heard[0], heard[0])])}
+                    self.assertIsNone(may_begin(web, record))
+                    bars, end = torn(web, record)
+                    self.assertIs(is_torn(web, record, (bars, end)), True)
+                    self.assertIs(is_torn(web, {name: (heard, [])}, (bars, end)), False)
+                    still = {name: ([], [(heard[0], heard[0])])}
+                    self.assertFalse(set(starters) == set(may_begin(web, still) or []))
+
+    def test_the_night_and_a_web_asked_alone(self):
+        for web, starters, night, now in self.lives(131, 20):
+            self.assertEqual(night.told("hey"), tellings_by(web, starters, now))
+            self.assertEqual(night.last_of("hey"), last_beat(web, starters))
+            hear = [place for place in places_of(web) if "hey" in night.cries_heard(place)]
+            self.assertLessEqual(len(hear), how_many_hear(web, starters, now))
+            for place in places_of(web)[::3]:
+                even, odd = reaches(web, starters, place)
+                beats = sorted([beat for beat in (even, odd) if beat is not None and 0 < beat <= now])
+                self.assertEqual(night.heard_at("hey", place), beats)
+
+    def test_the_desk_and_the_night(self):
+        for web, starters, night, now in self.lives(137, 15):
+            desk = Desk()
+            for row in ["web\n" + show_web(web), "begin hey " + " ".join(starters), f"on {now}"]:
+                self.assertEqual(desk.say(row), "ok")
+            self.assertEqual([desk.say("told hey"), desk.say("last hey")],
+                             [str(night.told("hey")), str(night.last_of("hey"))])
+            self.assertEqual(desk.say("quiet"), "hey" if night.quiet_cries() else "none")
+            for name in web[0]:
+                beats = [str(beat) for beat in hearings(web, starters, (name, name, 0)) if beat <= now]
+                self.assertEqual(desk.say(f"heard hey {name}"), " ".join(beats) or "never")
+
+    def test_who_should_begin_does_so_in_a_night(self):
+        for web in far_webs(139, 20) + some_webs(139, 20, 7, 6):
+            for beat, names in [soonest(web), latest(web)]:
+                for name in names:
+                    night = Night(web)
+                    night.begin("hey", [name])
+                    self.assertEqual(night.last_of("hey"), beat)
+            told = best_two(web)
+            if told:
+                night = Night(web)
+                night.begin("hey", told[1:])
+                self.assertEqual(night.last_of("hey"), told[0])
+                night.go_on(told[0])
+                for name in set(web[0]) - set(told[1:]):
+                    self.assertTrue(night.heard_at("hey", (name, name, 0)))
+
+    def test_a_needless_way_lost_changes_no_hearing_of_the_folk(self):
+        for web in far_webs(149, 15) + some_webs(149, 25, 7, 6):
+            starters = some_starters(len(web[1]), web[0])
+            for one, other, beats in web[1]:
+                night = Night(web)
+                night.lose(other, one)
+                night.begin("hey", starters)
+                night.go_on(10 ** 30)
+                less = without_way(web, one, other)
+                self.assertEqual([night.web_now(), night.told("hey")], [less, tellings(less, starters)])
+                same = all([night.heard_at("hey", (name, name, 0)) == hearings(web, starters, (name, name, 0))
+                            for name in web[0]])
+                self.assertEqual(same, (one, other, beats) in needless(web, starters))
+                self.assertEqual(odd_round(web) is not None and odd_round(less) is None,
+                                 (one, other, beats) in (in_all_odd_rounds(web) or []))
+                again = with_way(less, one, other, beats)
+                self.assertEqual(all_reaches(again, starters), all_reaches(web, starters))
+
+    def test_tellings_under_way_are_those_of_the_night(self):
+        for web, starters, night in nights(151, 40):
+            live = Night(web)
+            live.begin("hey", starters)
+            made = 0
+            for beat, said in enumerate(night + [[]]):
+                made += len(said)
+                self.assertEqual(live.told("hey"), made)
+                self.assertEqual(live.quiet_cries(), [] if said else ["hey"])
+                self.assertEqual(round_of(web, said), (len(night) - beat, 1))
+                later = (night + [[], []])[beat + 1]
+                self.assertEqual(next_tellings(web, said), later)
+                live.go_on(1)
+                hear = sorted({other for _, other in said})
+                self.assertEqual([place for place in sorted(beside(web)) if live.cries_heard(place)], hear)
